@@ -1,0 +1,1 @@
+"""A row of things that is kept by many hands, each at a desk of its own."""
