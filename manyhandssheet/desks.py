@@ -18,9 +18,14 @@ PUT = 2
 MOVE = 3
 OUT = 4
 TELL = 5
+MEET = 6
+ROW = 7
+SPOTS = 8
+WAITS = 9
+SAME = 10
 
 # By a call's number: how many numbers follow it.
-SIZES = {1: 1, 2: 2, 3: 3, 4: 2, 5: 2}
+SIZES = {1: 1, 2: 2, 3: 3, 4: 2, 5: 2, 6: 2, 7: 1, 8: 1, 9: 1, 10: 2}
 
 
 class Deed:
@@ -83,12 +88,27 @@ def row_of(deeds):
     return [deed for deed in spots if last[deed.thing] == deed.number]
 
 
+def waiting_of(deeds):
+    """Those of the deeds whose spots wait, the earliest stamp first."""
+    come_to = numbers_of(spots_of(deeds))
+    making_spots = [deed for deed in sorted(deeds, key=stamp) if deed.place is not None]
+    return [deed for deed in making_spots if deed.number not in come_to]
+
+
 def things_of(row):
     return [deed.thing for deed in row]
 
 
+def numbers_of(deeds):
+    return [deed.number for deed in deeds]
+
+
 def is_in(deed, deeds):
-    return deed.place is None or deed.number in [spot.number for spot in spots_of(deeds)]
+    return deed.place is None or deed.number in numbers_of(spots_of(deeds))
+
+
+def with_count(numbers):
+    return [len(numbers)] + numbers
 
 
 def spot_ahead(row, i):
@@ -102,7 +122,7 @@ def place_right_behind(deeds, number):
     """The place of a new spot right behind that of the deed of this number, or BEGINNING."""
     if (number, RIGHT) not in [deed.place for deed in deeds]:
         return (number, RIGHT)
-    in_order = [BEGINNING] + [spot.number for spot in spots_of(deeds)]
+    in_order = [BEGINNING] + numbers_of(spots_of(deeds))
     return (in_order[in_order.index(number) + 1], LEFT)
 
 
@@ -132,6 +152,13 @@ class House:
         self.deeds.append(deed)
         self.known[desk][deed.number] = deed
         return deed.number
+
+    def learn_from(self, desk, other):
+        """How many deeds the desk learns of all that the other one knows."""
+        before = len(self.known[desk])
+        for deed in self.deeds_known(other):
+            self.known[desk][deed.number] = deed
+        return len(self.known[desk]) - before
 
     def begin(self, desks):
         if desks < 1 or desks > MOST_DESKS:
@@ -185,6 +212,35 @@ class House:
         deeds = self.deeds_known(desk)
         return [len(deeds), 1 if is_in(deed, deeds) else 0]
 
+    def meet(self, desk, other):
+        if not self.has_desk(desk) or not self.has_desk(other):
+            return [NO_SUCH]
+        by_desk = self.learn_from(desk, other)
+        by_other = self.learn_from(other, desk)
+        return [len(self.known[desk]), by_desk, by_other]
+
+    def row(self, desk):
+        if not self.has_desk(desk):
+            return [NO_SUCH]
+        return with_count(things_of(row_of(self.deeds_known(desk))))
+
+    def spots(self, desk):
+        if not self.has_desk(desk):
+            return [NO_SUCH]
+        return with_count(numbers_of(spots_of(self.deeds_known(desk))))
+
+    def waits(self, desk):
+        if not self.has_desk(desk):
+            return [NO_SUCH]
+        return with_count(numbers_of(waiting_of(self.deeds_known(desk))))
+
+    def same(self, desk, other):
+        if not self.has_desk(desk) or not self.has_desk(other):
+            return [NO_SUCH]
+        same_deeds = sorted(self.known[desk]) == sorted(self.known[other])
+        same_row = self.row(desk) == self.row(other)
+        return [1 if same_deeds else 0, 1 if same_row else 0]
+
 
 def answer_to(house, call, numbers):
     if call == BEGIN:
@@ -195,7 +251,17 @@ def answer_to(house, call, numbers):
         return house.move(numbers[0], numbers[1], numbers[2])
     if call == OUT:
         return house.out(numbers[0], numbers[1])
-    return house.tell(numbers[0], numbers[1])
+    if call == TELL:
+        return house.tell(numbers[0], numbers[1])
+    if call == MEET:
+        return house.meet(numbers[0], numbers[1])
+    if call == ROW:
+        return house.row(numbers[0])
+    if call == SPOTS:
+        return house.spots(numbers[0])
+    if call == WAITS:
+        return house.waits(numbers[0])
+    return house.same(numbers[0], numbers[1])
 
 
 def answers(calls):

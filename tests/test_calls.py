@@ -1,47 +1,10 @@
-"""Each call at ordinary inputs, at the edges, and at what is refused: all through `answers`."""
+"""The calls 1 to 5 at ordinary inputs, at the edges, and at what is refused: all through `answers`."""
 
 import unittest
 
+from asking import (NO_MORE_DEEDS, NO_SUCH, NOT_IN_ROW, OUT_OF_RANGE, TOP, as_list, ask, begin, full_house, last,
+                    move, out, put, tell)
 from manyhandssheet.desks import answers
-from reference import split_answers
-
-TOP = 18446744073709551615
-OUT_OF_RANGE, NO_SUCH, NOT_IN_ROW, NO_MORE_DEEDS = [-1], [-2], [-3], [-5]
-
-
-def begin(desks):
-    return (1, desks)
-
-
-def put(desk, i):
-    return (2, desk, i)
-
-
-def move(desk, thing, i):
-    return (3, desk, thing, i)
-
-
-def out(desk, thing):
-    return (4, desk, thing)
-
-
-def tell(deed, desk):
-    return (5, deed, desk)
-
-
-def as_list(calls):
-    return [number for call in calls for number in call]
-
-
-def ask(*calls):
-    parts = split_answers(answers(as_list(calls)))
-    if len(parts) != len(calls):
-        raise AssertionError(f"{len(calls)} calls, {len(parts)} answers")
-    return parts
-
-
-def last(*calls):
-    return ask(*calls)[-1]
 
 
 def in_row(calls, desk, thing):
@@ -64,10 +27,6 @@ def hangs_on(calls, deed, spare):
         if last(*calls, *tells, tell(deed, spare))[1] == 0:
             found.append(left_out)
     return found
-
-
-def full_house(desks=1):
-    return [begin(desks)] + [put(0, i) for i in range(120)]
 
 
 class TheList(unittest.TestCase):
